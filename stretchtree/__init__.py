@@ -1,0 +1,1 @@
+"""Stretchtree: sums, least and greatest over stretches of a row."""
